@@ -1,0 +1,1 @@
+"""Pancakes, whole: stacks that are sorted by turning the top of them over."""
