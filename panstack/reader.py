@@ -1,7 +1,9 @@
 """Reading calls, one behind another, from one list of whole numbers."""
 
 # For each call by its number: how many whole numbers it has, and how many rows behind them.
-SHAPES = ((1, 1), (1, 0), (0, 0), (0, 0), (0, 0), (0, 0))
+SHAPES = (
+    (1, 1), (1, 0), (0, 0), (0, 0), (0, 0), (0, 0),
+    (0, 1), (0, 2), (0, 1), (2, 0), (2, 0), (0, 0))
 
 
 class Reader:

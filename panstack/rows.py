@@ -7,22 +7,23 @@ def fewest_row(stack, sides_count):
     gaps = gap_count(stack, sides_count)
     # A flip closes one gap at the most, so no row is shorter than the gaps are many.
     length = gaps
-    row = row_within(stack, sides_count, gaps, length)
+    row = row_within(stack, sides_count, gaps, length, 0)
     while row is None:
         length += 1
-        row = row_within(stack, sides_count, gaps, length)
+        row = row_within(stack, sides_count, gaps, length, 0)
     return row
 
 
-def row_within(stack, sides_count, gaps, length):
+def row_within(stack, sides_count, gaps, length, flip_before):
     # Lengths are tried upward and flips from the least, so the first row found
     # is one of the shortest and, of these, the one that is told first.
     if gaps == 0:
         return []
     for k in range(least_flip(sides_count), len(stack) + 1):
         gaps_left = gaps + gap_change(stack, k, sides_count)
-        if gaps_left < length:
-            rest = row_within(flipped(stack, k, sides_count), sides_count, gaps_left, length - 1)
+        # A flip done twice is none, so no shortest row has one twice on end.
+        if gaps_left < length and k != flip_before:
+            rest = row_within(flipped(stack, k, sides_count), sides_count, gaps_left, length - 1, k)
             if rest is not None:
                 return [k] + rest
     return None

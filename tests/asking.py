@@ -6,14 +6,39 @@ LOOK = [2]
 GAPS = [3]
 FEWEST = [4]
 USUAL = [5]
+HINT = [11]
 
 
 def begin(b, stack):
-    return [0, b, len(stack)] + list(stack)
+    return [0, b] + counted(stack)
 
 
 def flip(k):
     return [1, k]
+
+
+def counted(row):
+    return [len(row)] + list(row)
+
+
+def try_row(row):
+    return [6] + counted(row)
+
+
+def same(one, other):
+    return [7] + counted(one) + counted(other)
+
+
+def round_of(row):
+    return [8] + counted(row)
+
+
+def tally(b, n):
+    return [9, b, n]
+
+
+def worst(b, n):
+    return [10, b, n]
 
 
 def parted(told):

@@ -91,3 +91,45 @@ def usual_row(b, stack):
             stack = turn(1)
         stack = turn(size)
     return row
+
+
+def flips_needed(b, stack):
+    """Goes out from the stack, all flips at once, until the sorted one is among what is reached."""
+    reached = {stack}
+    flips = 0
+    while not any(is_sorted(other) for other in reached):
+        reached = {after_flip(b, other, k) for other in reached for k in range(len(other) + 1)}
+        flips += 1
+    return flips
+
+
+def is_ahead(one, other):
+    for size, beside in zip(one, other):
+        if size != beside:
+            return size < 0 if abs(size) == abs(beside) else abs(size) < abs(beside)
+    return False
+
+
+def tally(b, n):
+    needs = [flips_needed(b, stack) for stack in all_stacks(b, n)]
+    return [needs.count(flips) for flips in range(max(needs) + 1)]
+
+
+def worst(b, n):
+    most = -1
+    first = None
+    for stack in all_stacks(b, n):
+        flips = flips_needed(b, stack)
+        if flips > most or flips == most and is_ahead(stack, first):
+            most = flips
+            first = stack
+    return [most] + list(first)
+
+
+def times_until_again(b, stack, row):
+    times = 1
+    lying = after_row(b, stack, row)
+    while lying != stack:
+        lying = after_row(b, lying, row)
+        times += 1
+    return times

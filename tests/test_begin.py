@@ -1,6 +1,11 @@
 import unittest
 
-from asking import FEWEST, GAPS, LOOK, USUAL, ask, begin, flip, last
+from asking import (
+    FEWEST, GAPS, HINT, LOOK, USUAL, ask, begin, flip, last, round_of, same, tally, try_row, worst)
+
+OF_A_STACK = (
+    flip(0), flip(1), flip(20), LOOK, GAPS, FEWEST, USUAL, try_row([]), try_row([1]), try_row([20]),
+    same([], []), same([1], [20]), same([20] * 60, [0] * 60), round_of([]), round_of([2, 1]), round_of([20]), HINT)
 
 
 class BeginTakes(unittest.TestCase):
@@ -93,14 +98,17 @@ class BeginAgain(unittest.TestCase):
 
 
 class WithoutAStack(unittest.TestCase):
-    def test_all_but_begin_answer_minus_9(self):
-        for call in (flip(0), flip(1), flip(20), LOOK, GAPS, FEWEST, USUAL):
+    def test_all_of_a_stack_answer_minus_9(self):
+        for call in OF_A_STACK:
             self.assertEqual(ask(call), [[-9]])
 
     def test_also_behind_a_refused_begin(self):
+        self.assertEqual(ask(begin(2, [1]), *OF_A_STACK), [[-1]] + [[-9]] * len(OF_A_STACK))
+
+    def test_tally_and_worst_need_none(self):
         self.assertEqual(
-            ask(begin(2, [1]), flip(20), LOOK, GAPS, FEWEST, USUAL),
-            [[-1], [-9], [-9], [-9], [-9], [-9]])
+            ask(tally(0, 2), worst(0, 2), tally(2, 2), worst(1, 4), LOOK),
+            [[1, 1], [1, 2, 1], [-1], [-1], [-9]])
 
     def test_a_stack_may_come_later(self):
         self.assertEqual(ask(LOOK, flip(1), begin(0, [1]), LOOK), [[-9], [-9], [0], [0, 0, 1]])
